@@ -1,0 +1,55 @@
+"""What the tests share: numbers by their bits, and wrong inputs."""
+
+import struct
+from fractions import Fraction
+
+LEAST = 5e-324
+LEAST_NORMAL = 2.0 ** -1022
+GREATEST = 1.7976931348623157e308
+BELOW_GREATEST = 1.7976931348623155e308
+ABOVE_ONE = 1.0 + 2.0 ** -52
+BELOW_ONE = 1.0 - 2.0 ** -53
+
+INFINITY = 0x7FF0000000000000
+SIGN = 1 << 63
+NOT_FINITE = (
+    INFINITY,
+    INFINITY | SIGN,
+    INFINITY + 1,
+    (INFINITY + 1) | SIGN,
+    0x7FF8000000000000,
+    0xFFF8000000000000,
+    0x7FFFFFFFFFFFFFFF,
+    0xFFFFFFFFFFFFFFFF,
+)
+
+# Both zeros, neighbours in the last bit, the least and the greatest numbers,
+# and those where the steps between numbers begin to grow.
+EXTREMES = (
+    0.0, -0.0, LEAST, -LEAST, 2 * LEAST, LEAST_NORMAL, -LEAST_NORMAL,
+    LEAST_NORMAL - LEAST, LEAST_NORMAL + LEAST, 2 * LEAST_NORMAL,
+    1.0, -1.0, ABOVE_ONE, BELOW_ONE, -ABOVE_ONE, 0.1, 3.0, 1e-160, 1e160,
+    GREATEST, -GREATEST, BELOW_GREATEST, GREATEST / 2,
+)
+SMALL = (0.0, -0.0, 1.0, 2.0, 3.0, -1.0, -2.0)
+
+
+def bits(x):
+    return struct.unpack("<Q", struct.pack("<d", x))[0]
+
+
+def point(*coordinates):
+    return [bits(float(x)) for x in coordinates]
+
+
+def exact_point(coordinates):
+    return [Fraction(x) for x in coordinates]
+
+
+def random_points(source, count, k, values):
+    return [[source.choice(values) for _ in range(k)] for _ in range(count)]
+
+
+# What is no number at all has no sign.
+def sign(x):
+    return (x > 0) - (x < 0) if x == x else None
