@@ -22,6 +22,10 @@ def square_between(a, b):
     return product_sum(way, way)
 
 
+def cross_product(a, b):
+    return [a[1] * b[2] - a[2] * b[1], a[2] * b[0] - a[0] * b[2], a[0] * b[1] - a[1] * b[0]]
+
+
 def without_column(rows, column):
     return [row[:column] + row[column + 1:] for row in rows]
 

@@ -1,6 +1,14 @@
 """The calls: each takes numbers by their bits and gives back one list."""
 
+from exactplaces.clouds import hull_answer
+from exactplaces.clouds import nearest_place
+from exactplaces.loops import simplicity
+from exactplaces.loops import turning
+from exactplaces.reading import read_loop
 from exactplaces.reading import read_point
+from exactplaces.reading import read_points
+from exactplaces.reading import read_row
+from exactplaces.reading import read_two_rows
 from exactplaces.refusals import answered
 from exactplaces.signs import above_sign
 from exactplaces.signs import angle_sign
@@ -10,6 +18,11 @@ from exactplaces.signs import nearer_sign
 from exactplaces.signs import side_sign
 from exactplaces.signs import sphere_sign
 from exactplaces.stretches import crossing
+from exactplaces.sums import row_dot
+from exactplaces.sums import row_norm
+from exactplaces.sums import row_sum
+from exactplaces.telling import told
+from exactplaces.triangles import piercing
 
 
 def side(a, b, c):
@@ -47,3 +60,36 @@ def longer(k, a, b, c, d):
 def cross(a, b, c, d):
     return answered(lambda: [crossing(
         read_point(2, a), read_point(2, b), read_point(2, c), read_point(2, d))])
+
+
+def pierce(a, b, c, d, e):
+    return answered(lambda: [piercing(
+        read_point(3, a), read_point(3, b), read_point(3, c), read_point(3, d), read_point(3, e))])
+
+
+def turns(loop, p):
+    return answered(lambda: [0] + turning(read_loop(loop, 512), read_point(2, p)))
+
+
+def simple(loop):
+    return answered(lambda: [simplicity(read_loop(loop, 128))])
+
+
+def hull(points):
+    return answered(lambda: hull_answer(read_points(2, points, 1, 256)))
+
+
+def nearest(k, p, points):
+    return answered(lambda: [nearest_place(read_point(k, p), read_points(k, points, 1, 4096))])
+
+
+def sum_of(x):
+    return answered(lambda: told([row_sum(read_row(x))]))
+
+
+def dot(x, y):
+    return answered(lambda: told([row_dot(read_two_rows(x, y))]))
+
+
+def norm(x):
+    return answered(lambda: told([row_norm(read_row(x))]))

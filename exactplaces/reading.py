@@ -1,4 +1,4 @@
-"""Numbers and points as they are handed in, read as exact whole numbers.
+"""What is handed in, looked through and read as exact whole numbers.
 
 Every finite double is a whole multiple of the least one above 0, 2^-1074.
 A number is kept as how many of these it is: so sums, differences and
@@ -10,11 +10,12 @@ from exactplaces.refusals import WrongInput
 FRACTION_MASK = 0xFFFFFFFFFFFFF
 HIDDEN_BIT = 0x10000000000000
 EXPONENT_MASK = 2047
+MOST_IN_ROW = 4096
 
 
 def read_number(bits):
     exponent = (bits >> 52) & EXPONENT_MASK
-    if exponent == EXPONENT_MASK:
+    if exponent == EXPONENT_MASK or bits >> 64 != 0:
         raise WrongInput("no finite number")
     size = bits & FRACTION_MASK
     # Exponents 0 and 1 share one step; only from 1 on is the hidden bit there.
@@ -25,9 +26,51 @@ def read_number(bits):
     return size
 
 
-def read_point(k, coordinates):
+def read_choice(value, least, most):
+    if value < least or value > most:
+        raise WrongInput("a count or a choice out of its range")
+    return value
+
+
+def read_numbers(numbers, least, most):
+    read_choice(len(numbers), least, most)
+    return [read_number(bits) for bits in numbers]
+
+
+def read_row(row):
+    return read_numbers(row, 0, MOST_IN_ROW)
+
+
+def same_length(one, other):
+    if len(one) != len(other):
+        raise WrongInput("two rows of different lengths")
+    return [one, other]
+
+
+def read_two_rows(one, other):
+    return same_length(read_row(one), read_row(other))
+
+
+def read_dimension(k):
     if k not in (2, 3):
         raise WrongInput("a point has two or three coordinates")
-    if len(coordinates) != k:
-        raise WrongInput("too few or too many coordinates")
-    return [read_number(bits) for bits in coordinates]
+    return k
+
+
+def read_point(k, coordinates):
+    return read_numbers(coordinates, read_dimension(k), k)
+
+
+def in_groups(flat, size):
+    if len(flat) % size != 0:
+        raise WrongInput("the last one is there in part only")
+    return [flat[start:start + size] for start in range(0, len(flat), size)]
+
+
+def read_points(k, coordinates, least, most):
+    numbers = read_numbers(coordinates, least * read_dimension(k), most * k)
+    return in_groups(numbers, k)
+
+
+def read_loop(loop, most):
+    return read_points(2, loop, 3, most)

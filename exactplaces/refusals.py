@@ -9,8 +9,13 @@ class NotThere(Exception):
     pass
 
 
-# Each call reads all that is handed in before it reckons, so that
-# WrongInput is raised ahead of any other refusal.
+class CantBeTold(Exception):
+    pass
+
+
+# Each call reads all that is handed in, then reckons all of it exactly, and
+# only then tells: so WrongInput is raised ahead of NotThere, and that ahead
+# of CantBeTold.
 def answered(work):
     try:
         return work()
@@ -18,3 +23,5 @@ def answered(work):
         return [-8]
     except NotThere:
         return [-5]
+    except CantBeTold:
+        return [-7]

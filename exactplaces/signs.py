@@ -12,8 +12,12 @@ from exactplaces.algebra import way_between
 from exactplaces.refusals import NotThere
 
 
+def side_value(a, b, c):
+    return determinant([way_between(a, b), way_between(a, c)])
+
+
 def side_sign(a, b, c):
-    return sign_of(determinant([way_between(a, b), way_between(a, c)]))
+    return sign_of(side_value(a, b, c))
 
 
 def above_sign(a, b, c, d):

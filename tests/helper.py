@@ -53,3 +53,24 @@ def random_points(source, count, k, values):
 # What is no number at all has no sign.
 def sign(x):
     return (x > 0) - (x < 0) if x == x else None
+
+
+# The coordinates of each point, one point's behind another's.
+def joined(points):
+    return [number for p in points for number in point(*p)]
+
+
+# Any finite double, by its bits.
+def any_number(source):
+    while True:
+        number = source.getrandbits(64)
+        if number & INFINITY != INFINITY:
+            return number
+
+
+# Numbers near to one another in size, with many bits or few, so that rounding
+# and cancelling matter.
+def near_number(source, spread=40):
+    exponent = 1023 + source.randrange(-spread, spread + 1)
+    empty = source.choice((0, 0, 26, 50))
+    return source.getrandbits(1) << 63 | exponent << 52 | source.getrandbits(52 - empty) << empty

@@ -4,44 +4,8 @@ import random
 import unittest
 
 from exactplaces.exact import cross
-from helper import (ABOVE_ONE, BELOW_GREATEST, EXTREMES, GREATEST, LEAST, SMALL,
-                    exact_point, point, random_points)
-
-
-# All t with low <= start + t * slope <= high, cut from those between first and last.
-def clipped(span, start, slope, low, high):
-    if slope == 0:
-        return span if low <= start <= high else None
-    ends = sorted(((low - start) / slope, (high - start) / slope))
-    first, last = max(span[0], ends[0]), min(span[1], ends[1])
-    return (first, last) if first <= last else None
-
-
-# What of the way from a to b belongs to the other stretch, by its share t of
-# the way: on the other's line, and between its ends.
-def common_span(a, b, c, d):
-    ux, uy, vx, vy = b[0] - a[0], b[1] - a[1], d[0] - c[0], d[1] - c[1]
-    wx, wy = a[0] - c[0], a[1] - c[1]
-    limits = [(vx * wy - vy * wx, vx * uy - vy * ux, 0, 0),
-              (vx * wx + vy * wy, vx * ux + vy * uy, 0, vx * vx + vy * vy)]
-    if (vx, vy) == (0, 0):
-        limits = [(wx, ux, 0, 0), (wy, uy, 0, 0)]
-    span = (exact_point([0])[0], exact_point([0 if a == b else 1])[0])
-    for limit in limits:
-        if span is not None:
-            span = clipped(span, *limit)
-    return span
-
-
-def true_cross(a, b, c, d):
-    a, b, c, d = [exact_point(p) for p in (a, b, c, d)]
-    span = common_span(a, b, c, d)
-    if span is None:
-        return 0
-    if span[0] != span[1]:
-        return 3
-    meeting = [x + span[0] * (y - x) for x, y in zip(a, b)]
-    return 2 if meeting in (a, b, c, d) else 1
+from helper import ABOVE_ONE, BELOW_GREATEST, EXTREMES, GREATEST, LEAST, SMALL, point, random_points
+from truth import true_cross
 
 
 class CrossTest(unittest.TestCase):

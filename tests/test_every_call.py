@@ -9,6 +9,7 @@ from helper import NOT_FINITE, bits, point
 FLAT = [point(0, 0), point(1, 0), point(0, 1), point(2, 2)]
 ON_A_LINE = [point(0, 0), point(1, 1), point(2, 2), point(3, 3)]
 SOLID = [point(0, 0, 0), point(1, 0, 0), point(0, 1, 0), point(0, 0, 1), point(2, 2, 2)]
+ON_A_LINE_IN_SPACE = [point(x, x, x) for x in range(5)]
 IN_A_PLANE = [point(0, 0, 1), point(1, 0, 1), point(0, 1, 1), point(1, 1, 1), point(2, 3, 1)]
 
 # Name, how many points, of how many coordinates, their values; where there
@@ -21,6 +22,8 @@ WITHOUT_K = (
     ("sphere", 3, SOLID),
     ("sphere", 3, IN_A_PLANE),
     ("cross", 2, FLAT),
+    ("pierce", 3, SOLID),
+    ("pierce", 3, ON_A_LINE_IN_SPACE),
 )
 WITH_K = (("angle", 3), ("nearer", 3), ("longer", 4))
 

@@ -32,6 +32,14 @@ WORDS = re.compile(
     r"\b(type|typing|typing_extensions|enum|Enum|IntEnum|StrEnum|Flag|IntFlag|Generic|Protocol|ABC|ABCMeta|"
     r"namedtuple|NamedTuple|TypedDict|TYPE_CHECKING|abstractmethod)\b|dataclass|overload|contextmanager")
 SIGNS = re.compile(r"[ -~\n]*")
+NOT_USED = set(
+    "register mro elements open input version_info with_traceback add_note attrgetter breakpoint builtins compile "
+    "copyright credits delattr dir eval exec exit gc getattr globals hasattr help id importlib license locals "
+    "methodcaller os quit setattr super type vars sys __name__ chr format format_map".split())
+WALKED = ("zip", "enumerate", "reversed", "range")
+WALKERS = ("list", "tuple", "dict", "sorted", "sum", "any", "all", "enumerate", "zip")
+KEYWORDS = {"sorted": ("key", "reverse"), "min": ("key", "default"), "max": ("key", "default"),
+            "sum": ("start",), "enumerate": ("start",), "zip": ("strict",)}
 
 
 def trees():
@@ -121,3 +129,72 @@ class LanguageTest(unittest.TestCase):
                 self.assertEqual(node.level, 0, (name, node.lineno))
                 for imported in node.names:
                     self.assertIn(imported.name, defined[node.module], (name, node.lineno))
+
+    def test_no_two_files_draw_from_one_another(self):
+        drawn = {f"exactplaces.{name[:-3]}": [node.module for node in tree.body if isinstance(node, ast.ImportFrom)]
+                 for name, tree in trees()}
+        settled = set()
+        while len(settled) < len(drawn):
+            ready = [module for module in drawn if module not in settled and settled.issuperset(drawn[module])]
+            self.assertTrue(ready, sorted(set(drawn) - settled))
+            settled.update(ready)
+
+    def test_each_name_once(self):
+        for name, tree in trees():
+            imported = [alias.asname or alias.name for node in tree.body if isinstance(node, ast.ImportFrom)
+                        for alias in node.names]
+            classes = [node.name for node in tree.body if isinstance(node, ast.ClassDef)]
+            tops = imported + [node.name for node in tree.body if isinstance(node, (ast.FunctionDef, ast.ClassDef))]
+            tops += [node.targets[0].id for node in tree.body if isinstance(node, ast.Assign)]
+            self.assertEqual(len(tops), len(set(tops)), name)
+            inner = [node.arg for node in ast.walk(tree) if isinstance(node, ast.arg)]
+            inner += [node.id for top in tree.body if isinstance(top, (ast.FunctionDef, ast.ClassDef))
+                      for node in ast.walk(top) if isinstance(node, ast.Name) and isinstance(node.ctx, ast.Store)]
+            self.assertFalse(set(inner) & set(imported + classes), name)
+            used = {node.id for node in ast.walk(tree) if isinstance(node, ast.Name)}
+            self.assertLessEqual(set(imported), used, name)
+
+    def test_plain_values_at_the_top(self):
+        for name, tree in trees():
+            for node in tree.body:
+                if isinstance(node, ast.Assign):
+                    self.assertIsInstance(node.value, (ast.Constant, ast.Tuple), (name, node.lineno))
+
+    def test_names_that_are_not_used(self):
+        used = [(name, node.id) for name, node in nodes(ast.Name)] + [(name, node.arg) for name, node in nodes(ast.arg)]
+        used += [(name, node.attr) for name, node in nodes(ast.Attribute)]
+        used += [(name, node.name) for name, node in nodes((ast.FunctionDef, ast.ClassDef))]
+        for name, word in used:
+            self.assertNotIn(word, NOT_USED, name)
+
+    def test_walked_at_once(self):
+        for name, tree in trees():
+            walked = set()
+            for node in ast.walk(tree):
+                if isinstance(node, (ast.For, ast.comprehension)):
+                    walked.add(id(node.iter))
+                if isinstance(node, ast.Call) and isinstance(node.func, ast.Name) and node.func.id in WALKERS:
+                    walked.update(id(value) for value in node.args[:1])
+            for node in ast.walk(tree):
+                if isinstance(node, ast.Call) and isinstance(node.func, ast.Name) and node.func.id in WALKED:
+                    self.assertIn(id(node), walked, (name, node.lineno))
+
+    def test_keywords(self):
+        for name, node in nodes(ast.Call):
+            allowed = KEYWORDS.get(node.func.id if isinstance(node.func, ast.Name) else "", ())
+            for keyword in node.keywords:
+                self.assertIn(keyword.arg, allowed, (name, node.lineno))
+
+    def test_texts(self):
+        for name, node in nodes(ast.Constant):
+            if isinstance(node.value, str):
+                self.assertNotIn("%", node.value, (name, node.lineno))
+
+    def test_errors(self):
+        own = {node.name for name, node in nodes(ast.ClassDef)}
+        for name, node in nodes(ast.ExceptHandler):
+            self.assertIsInstance(node.type, ast.Name, (name, node.lineno))
+            self.assertIn(node.type.id, own | {"KeyError", "ZeroDivisionError"}, (name, node.lineno))
+        for name, node in nodes(ast.Raise):
+            self.assertIsInstance(node.exc, ast.Call, (name, node.lineno))
+            self.assertIn(node.exc.func.id, own, (name, node.lineno))

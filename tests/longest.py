@@ -1,0 +1,39 @@
+"""For every call on lists: the longest that the document allows, with numbers of any size."""
+
+import random
+
+from helper import any_number, joined
+
+SOURCE = random.Random(99)
+
+
+def numbers(count):
+    return [any_number(SOURCE) for _ in range(count)]
+
+
+# Numbers of any size, the least first, without their signs.
+def rising(count):
+    return sorted(number & ~(1 << 63) for number in numbers(count))
+
+
+# A loop that doesn't cross itself, so that every two stretches must be looked
+# at: rightwards below 0, and back above, by numbers of any size.
+def long_simple_loop(count):
+    there = rising(count // 2)
+    back = rising(count - count // 2)[::-1]
+    heights = numbers(count)
+    below = [[x, y | 1 << 63] for x, y in zip(there, heights)]
+    above = [[x, y & ~(1 << 63)] for x, y in zip(back, heights[::-1])]
+    return [number for p in below + above for number in p]
+
+
+LONGEST = [
+    ("turns", [numbers(1024), numbers(2)]),
+    ("simple", [long_simple_loop(128)]),
+    ("hull", [numbers(512)]),
+    ("hull", [joined([(x * 1e150, x * x * 1e300) for x in range(-128, 128)])]),
+    ("nearest", [3, numbers(3), numbers(12288)]),
+    ("sum_of", [numbers(4096)]),
+    ("dot", [numbers(4096), numbers(4096)]),
+    ("norm", [numbers(4096)]),
+]

@@ -1,0 +1,34 @@
+"""The interface as the document writes it: the calls of exactplaces.exact, with their arguments."""
+
+import inspect
+import unittest
+
+from exactplaces import exact
+
+CALLS = """
+side(a, b, c)
+circle(a, b, c, d)
+above(a, b, c, d)
+sphere(a, b, c, d, e)
+angle(k, a, b, c)
+nearer(k, p, a, b)
+longer(k, a, b, c, d)
+cross(a, b, c, d)
+pierce(a, b, c, d, e)
+turns(loop, p)
+simple(loop)
+hull(points)
+nearest(k, p, points)
+sum_of(x)
+dot(x, y)
+norm(x)
+"""
+
+
+class InterfaceTest(unittest.TestCase):
+    def test_names_and_arguments(self):
+        for line in CALLS.split("\n")[1:-1]:
+            name = line.partition("(")[0]
+            with self.subTest(call=line):
+                self.assertEqual(name + str(inspect.signature(getattr(exact, name))), line)
+                self.assertEqual(getattr(exact, name).__module__, "exactplaces.exact")
