@@ -4,10 +4,16 @@ from exactplaces.clouds import hull_answer
 from exactplaces.clouds import nearest_place
 from exactplaces.loops import simplicity
 from exactplaces.loops import turning
+from exactplaces.measures import distance
+from exactplaces.measures import loop_area
+from exactplaces.measures import loop_heart
 from exactplaces.reading import read_loop
+from exactplaces.reading import read_numbers
 from exactplaces.reading import read_point
 from exactplaces.reading import read_points
 from exactplaces.reading import read_row
+from exactplaces.reading import read_square
+from exactplaces.reading import read_triangles
 from exactplaces.reading import read_two_rows
 from exactplaces.refusals import answered
 from exactplaces.signs import above_sign
@@ -17,10 +23,15 @@ from exactplaces.signs import longer_sign
 from exactplaces.signs import nearer_sign
 from exactplaces.signs import side_sign
 from exactplaces.signs import sphere_sign
+from exactplaces.solids import solid_heart
+from exactplaces.solids import solid_mass
 from exactplaces.stretches import crossing
 from exactplaces.sums import row_dot
 from exactplaces.sums import row_norm
+from exactplaces.sums import row_parts
+from exactplaces.sums import row_ratio
 from exactplaces.sums import row_sum
+from exactplaces.sums import square_determinant
 from exactplaces.telling import told
 from exactplaces.triangles import piercing
 
@@ -93,3 +104,35 @@ def dot(x, y):
 
 def norm(x):
     return answered(lambda: told([row_norm(read_row(x))]))
+
+
+def ratio(x, y, u, v):
+    return answered(lambda: told([row_ratio(read_two_rows(x, y), read_two_rows(u, v))]))
+
+
+def parts(x):
+    return answered(lambda: row_parts(read_numbers(x, 0, 256)))
+
+
+def det(n, numbers):
+    return answered(lambda: told([square_determinant(read_square(n, numbers))]))
+
+
+def area(loop):
+    return answered(lambda: told([loop_area(read_loop(loop, 512))]))
+
+
+def heart(loop):
+    return answered(lambda: told(loop_heart(read_loop(loop, 512))))
+
+
+def mass(points, triangles):
+    return answered(lambda: told(solid_mass(read_triangles(points, triangles))))
+
+
+def heart3(points, triangles):
+    return answered(lambda: told(solid_heart(read_triangles(points, triangles))))
+
+
+def apart(k, a, b):
+    return answered(lambda: told([distance(read_point(k, a), read_point(k, b))]))

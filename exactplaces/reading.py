@@ -74,3 +74,16 @@ def read_points(k, coordinates, least, most):
 
 def read_loop(loop, most):
     return read_points(2, loop, 3, most)
+
+
+def read_square(n, numbers):
+    read_choice(n, 1, 5)
+    return in_groups(read_numbers(numbers, n * n, n * n), n)
+
+
+# Each triangle as its three points.
+def read_triangles(coordinates, triangles):
+    points = read_points(3, coordinates, 1, 4096)
+    read_choice(len(triangles), 3, 3 * 2048)
+    corners = [points[read_choice(place, 0, len(points) - 1)] for place in triangles]
+    return in_groups(corners, 3)

@@ -47,7 +47,25 @@ EXAMPLES = [
     ("dot", [GREAT_ROW, GREAT_ROW]),
     ("norm", [ROW]),
     ("norm", [GREAT_ROW]),
+    ("ratio", [ROW, OTHER_ROW, GREAT_ROW, numbers_of([1, -1, 3])]),
+    ("ratio", [ROW, OTHER_ROW, [], []]),
+    ("ratio", [GREAT_ROW, GREAT_ROW, ROW, OTHER_ROW]),
+    ("parts", [ROW]),
+    ("parts", [GREAT_ROW]),
+    ("det", [2, numbers_of([1, 2, 3, 4])]),
+    ("det", [3, numbers_of([1e200, 2, 3, 4, 1e200, 6, 7, 8, 1e200])]),
+    ("area", [SQUARE]),
+    ("area", [joined([(0, 0), (1e200, 0), (0, 1e200)])]),
+    ("heart", [SQUARE]),
+    ("heart", [LINE[0] + LINE[1] + LINE[2]]),
+    ("mass", [SOLID[0] + SOLID[1] + SOLID[2] + SOLID[3], [0, 2, 1, 0, 1, 3, 0, 3, 2, 1, 2, 3]]),
+    ("mass", [joined([(1e200, 0, 0), (0, 1e200, 0), (0, 0, 1e200)]), [0, 1, 2]]),
+    ("heart3", [SOLID[0] + SOLID[1] + SOLID[2] + SOLID[3], [0, 2, 1, 0, 1, 3, 0, 3, 2, 1, 2, 3]]),
+    ("heart3", [SOLID[0] + SOLID[1] + SOLID[2] + SOLID[3], [0, 2, 1]]),
+    ("apart", [2] + FLAT[:2]),
+    ("apart", [3, SOLID[4], SOLID[1]]),
+    ("apart", [2, point(GREATEST, 0), point(-GREATEST, 0)]),
 ]
 
 # Lists of whole numbers that are no doubles: the name, and which argument.
-NO_DOUBLES = ()
+NO_DOUBLES = (("mass", 1), ("heart3", 1))

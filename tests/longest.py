@@ -36,4 +36,11 @@ LONGEST = [
     ("sum_of", [numbers(4096)]),
     ("dot", [numbers(4096), numbers(4096)]),
     ("norm", [numbers(4096)]),
+    ("ratio", [numbers(4096), numbers(4096), numbers(4096), numbers(4096)]),
+    ("parts", [[number & ~(1 << 62) for number in numbers(256)]]),
+    ("det", [5, numbers(25)]),
+    ("area", [numbers(1024)]),
+    ("heart", [numbers(1024)]),
+    ("mass", [numbers(12288), [SOURCE.randrange(4096) for _ in range(6144)]]),
+    ("heart3", [numbers(12288), [SOURCE.randrange(4096) for _ in range(6144)]]),
 ]

@@ -30,6 +30,8 @@ WITH_K = (("angle", 3), ("nearer", 3), ("longer", 4))
 
 def all_calls():
     calls = [(name, k, [], points) for name, k, points in WITHOUT_K]
+    calls.append(("apart", 2, [2], FLAT[:2]))
+    calls.append(("apart", 3, [3], SOLID[:2]))
     for name, count in WITH_K:
         calls.append((name, 2, [2], FLAT[:count]))
         calls.append((name, 3, [3], SOLID[:count]))
@@ -107,7 +109,7 @@ class UnchangedTest(unittest.TestCase):
                 self.assertEqual(handed, points)
                 self.assertEqual(first, second)
                 self.assertIs(type(first), list)
-                self.assertEqual([type(x) for x in first], [int])
+                self.assertEqual({type(x) for x in first}, {int})
 
     def test_an_answer_that_is_changed_changes_no_later_one(self):
         exact.side(*FLAT[:3]).append(7)

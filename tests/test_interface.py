@@ -22,6 +22,14 @@ nearest(k, p, points)
 sum_of(x)
 dot(x, y)
 norm(x)
+ratio(x, y, u, v)
+parts(x)
+det(n, numbers)
+area(loop)
+heart(loop)
+mass(points, triangles)
+heart3(points, triangles)
+apart(k, a, b)
 """
 
 
