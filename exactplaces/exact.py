@@ -7,6 +7,13 @@ from exactplaces.loops import turning
 from exactplaces.measures import distance
 from exactplaces.measures import loop_area
 from exactplaces.measures import loop_heart
+from exactplaces.places import centre_place
+from exactplaces.places import cutting_place
+from exactplaces.places import foot_place
+from exactplaces.places import line_distance
+from exactplaces.places import meeting_place
+from exactplaces.places import normal_way
+from exactplaces.reading import read_choice
 from exactplaces.reading import read_loop
 from exactplaces.reading import read_numbers
 from exactplaces.reading import read_point
@@ -15,7 +22,9 @@ from exactplaces.reading import read_row
 from exactplaces.reading import read_square
 from exactplaces.reading import read_triangles
 from exactplaces.reading import read_two_rows
+from exactplaces.reading import read_way
 from exactplaces.refusals import answered
+from exactplaces.rounding import grid_answer
 from exactplaces.signs import above_sign
 from exactplaces.signs import angle_sign
 from exactplaces.signs import circle_sign
@@ -136,3 +145,38 @@ def heart3(points, triangles):
 
 def apart(k, a, b):
     return answered(lambda: told([distance(read_point(k, a), read_point(k, b))]))
+
+
+def off(p, a, b):
+    return answered(lambda: told([line_distance(read_point(2, p), read_point(2, a), read_point(2, b))]))
+
+
+def meet(a, b, c, d):
+    return answered(lambda: told(meeting_place(
+        read_point(2, a), read_point(2, b), read_point(2, c), read_point(2, d))))
+
+
+def foot(k, p, a, b):
+    return answered(lambda: told(foot_place(read_point(k, p), read_point(k, a), read_point(k, b))))
+
+
+def centre(a, b, c):
+    return answered(lambda: told(centre_place(read_point(2, a), [read_point(2, b), read_point(2, c)])))
+
+
+def centre3(a, b, c, d):
+    return answered(lambda: told(centre_place(
+        read_point(3, a), [read_point(3, b), read_point(3, c), read_point(3, d)])))
+
+
+def cutting(a, b, c, d, e):
+    return answered(lambda: told(cutting_place(
+        read_point(3, a), read_point(3, b), read_point(3, c), read_point(3, d), read_point(3, e))))
+
+
+def normal(a, b, c):
+    return answered(lambda: told(normal_way(read_point(3, a), read_point(3, b), read_point(3, c))))
+
+
+def grid(k, way, x):
+    return answered(lambda: grid_answer(read_choice(k, 0, 15), read_way(way), read_row(x)))

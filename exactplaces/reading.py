@@ -32,6 +32,10 @@ def read_choice(value, least, most):
     return value
 
 
+def read_way(way):
+    return read_choice(way, 0, 3)
+
+
 def read_numbers(numbers, least, most):
     read_choice(len(numbers), least, most)
     return [read_number(bits) for bits in numbers]

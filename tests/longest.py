@@ -42,5 +42,6 @@ LONGEST = [
     ("area", [numbers(1024)]),
     ("heart", [numbers(1024)]),
     ("mass", [numbers(12288), [SOURCE.randrange(4096) for _ in range(6144)]]),
+    ("grid", [15, 0, numbers(4096)]),
     ("heart3", [numbers(12288), [SOURCE.randrange(4096) for _ in range(6144)]]),
 ]

@@ -24,14 +24,23 @@ WITHOUT_K = (
     ("cross", 2, FLAT),
     ("pierce", 3, SOLID),
     ("pierce", 3, ON_A_LINE_IN_SPACE),
+    ("off", 2, FLAT[:3]),
+    ("off", 2, [FLAT[0], FLAT[1], FLAT[1]]),
+    ("meet", 2, FLAT),
+    ("meet", 2, ON_A_LINE),
+    ("centre", 2, FLAT[:3]),
+    ("centre", 2, ON_A_LINE[:3]),
+    ("centre3", 3, SOLID[:4]),
+    ("centre3", 3, IN_A_PLANE[:4]),
+    ("cutting", 3, SOLID),
+    ("cutting", 3, IN_A_PLANE),
+    ("normal", 3, SOLID[:3]),
 )
-WITH_K = (("angle", 3), ("nearer", 3), ("longer", 4))
+WITH_K = (("angle", 3), ("nearer", 3), ("longer", 4), ("apart", 2), ("foot", 3))
 
 
 def all_calls():
     calls = [(name, k, [], points) for name, k, points in WITHOUT_K]
-    calls.append(("apart", 2, [2], FLAT[:2]))
-    calls.append(("apart", 3, [3], SOLID[:2]))
     for name, count in WITH_K:
         calls.append((name, 2, [2], FLAT[:count]))
         calls.append((name, 3, [3], SOLID[:count]))

@@ -30,6 +30,14 @@ heart(loop)
 mass(points, triangles)
 heart3(points, triangles)
 apart(k, a, b)
+off(p, a, b)
+meet(a, b, c, d)
+foot(k, p, a, b)
+centre(a, b, c)
+centre3(a, b, c, d)
+cutting(a, b, c, d, e)
+normal(a, b, c)
+grid(k, way, x)
 """
 
 

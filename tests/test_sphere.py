@@ -7,21 +7,7 @@ import unittest
 from exactplaces.exact import sphere
 from helper import (ABOVE_ONE, BELOW_ONE, EXTREMES, GREATEST, LEAST, SMALL,
                     exact_point, point, random_points, sign)
-
-
-# The rows' solution, or None where there is not just one.
-def solved(rows):
-    rows = [list(row) for row in rows]
-    for i in range(3):
-        pivot = [r for r in range(i, 3) if rows[r][i] != 0]
-        if not pivot:
-            return None
-        rows[i], rows[pivot[0]] = rows[pivot[0]], rows[i]
-        rows[i] = [x / rows[i][i] for x in rows[i]]
-        for r in range(3):
-            if r != i:
-                rows[r] = [x - rows[r][i] * y for x, y in zip(rows[r], rows[i])]
-    return [row[3] for row in rows]
+from truth import solved
 
 
 def squared(way):

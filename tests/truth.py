@@ -200,3 +200,50 @@ def is_left_or_between(a, b, p):
     u, v = way(a, b), way(a, p)
     turn = u[0] * v[1] - u[1] * v[0]
     return turn > 0 or (turn == 0 and 0 <= inner(u, v) <= inner(u, u))
+
+
+# The rows' one solution by elimination, each row's last entry its right side;
+# None where there is none or more than one.
+def solved(rows):
+    rows = [[Fraction(x) for x in row] for row in rows]
+    for i in range(len(rows)):
+        pivots = [r for r in range(i, len(rows)) if rows[r][i] != 0]
+        if not pivots:
+            return None
+        rows[i], rows[pivots[0]] = rows[pivots[0]], rows[i]
+        rows[i] = [x / rows[i][i] for x in rows[i]]
+        for r in range(len(rows)):
+            if r != i:
+                rows[r] = [x - rows[r][i] * y for x, y in zip(rows[r], rows[i])]
+    return [row[-1] for row in rows]
+
+
+def answer_or_not_there(values):
+    return [-5] if values is None else answer_of(values)
+
+
+# By the shares s and t of both ways: a + s (b - a) = c + t (d - c).
+def meeting_of(a, b, c, d):
+    u, v, w = way(a, b), way(c, d), way(a, c)
+    shares = solved([[u[i], -v[i], w[i]] for i in (0, 1)])
+    return shares and [c[i] + shares[1] * v[i] for i in (0, 1)]
+
+
+def foot_of(p, a, b):
+    u = way(a, b)
+    if not any(u):
+        return None
+    back = Fraction(inner(way(p, b), u)) / inner(u, u)
+    return [y - back * z for y, z in zip(b, u)]
+
+
+# As far from the first as from each other one.
+def centre_of(first, others):
+    return solved([[2 * (y - x) for x, y in zip(first, p)] + [inner(p, p) - inner(first, first)] for p in others])
+
+
+# By all three shares: a + r (b - a) + s (c - a) = d + t (e - d).
+def cutting_of(a, b, c, d, e):
+    u, v, w, far = way(a, b), way(a, c), way(d, e), way(a, d)
+    shares = solved([[u[i], v[i], -w[i], far[i]] for i in range(3)])
+    return shares and [a[i] + shares[0] * u[i] + shares[1] * v[i] for i in range(3)]
