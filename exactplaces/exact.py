@@ -2,6 +2,10 @@
 
 from exactplaces.clouds import hull_answer
 from exactplaces.clouds import nearest_place
+from exactplaces.intervals import alone_answer
+from exactplaces.intervals import both_answer
+from exactplaces.intervals import rows_answer
+from exactplaces.intervals import weigh_answer
 from exactplaces.loops import simplicity
 from exactplaces.loops import turning
 from exactplaces.measures import distance
@@ -14,6 +18,9 @@ from exactplaces.places import line_distance
 from exactplaces.places import meeting_place
 from exactplaces.places import normal_way
 from exactplaces.reading import read_choice
+from exactplaces.reading import read_interval_row
+from exactplaces.reading import read_interval_square
+from exactplaces.reading import read_intervals
 from exactplaces.reading import read_loop
 from exactplaces.reading import read_numbers
 from exactplaces.reading import read_point
@@ -21,10 +28,16 @@ from exactplaces.reading import read_points
 from exactplaces.reading import read_row
 from exactplaces.reading import read_square
 from exactplaces.reading import read_triangles
+from exactplaces.reading import read_two_interval_rows
 from exactplaces.reading import read_two_rows
 from exactplaces.reading import read_way
+from exactplaces.reading import read_wholes
 from exactplaces.refusals import answered
 from exactplaces.rounding import grid_answer
+from exactplaces.rounding import number_answer
+from exactplaces.rounding import pick_answer
+from exactplaces.rounding import rounded_answer
+from exactplaces.rounding import whole_answer
 from exactplaces.signs import above_sign
 from exactplaces.signs import angle_sign
 from exactplaces.signs import circle_sign
@@ -180,3 +193,36 @@ def normal(a, b, c):
 
 def grid(k, way, x):
     return answered(lambda: grid_answer(read_choice(k, 0, 15), read_way(way), read_row(x)))
+
+
+def whole(kind, way, x):
+    return answered(lambda: whole_answer(read_choice(kind, 0, 3), read_way(way), read_row(x)))
+
+
+def number(way, x):
+    return answered(lambda: number_answer(read_way(way), read_wholes(x)))
+
+
+def pick(op, x, y):
+    return answered(lambda: pick_answer(read_choice(op, 0, 3), read_two_rows(x, y)))
+
+
+def rounded(op, way, x, y):
+    return answered(lambda: rounded_answer(read_choice(op, 0, 4), read_way(way), read_two_rows(x, y)))
+
+
+def both(op, X, Y):
+    return answered(lambda: both_answer(read_choice(op, 0, 5), read_two_interval_rows(X, Y)))
+
+
+def alone(op, X):
+    return answered(lambda: alone_answer(read_choice(op, 0, 4), read_interval_row(X)))
+
+
+def weigh(X, Y):
+    return answered(lambda: weigh_answer(read_two_interval_rows(X, Y)))
+
+
+def rows(n, A, X):
+    return answered(lambda: rows_answer(
+        read_interval_square(read_choice(n, 1, 16), A), read_intervals(X, n, n)))

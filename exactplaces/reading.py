@@ -11,6 +11,7 @@ FRACTION_MASK = 0xFFFFFFFFFFFFF
 HIDDEN_BIT = 0x10000000000000
 EXPONENT_MASK = 2047
 MOST_IN_ROW = 4096
+MOST_INTERVALS = 2048
 
 
 def read_number(bits):
@@ -91,3 +92,28 @@ def read_triangles(coordinates, triangles):
     read_choice(len(triangles), 3, 3 * 2048)
     corners = [points[read_choice(place, 0, len(points) - 1)] for place in triangles]
     return in_groups(corners, 3)
+
+
+def read_wholes(wholes):
+    read_choice(len(wholes), 0, MOST_IN_ROW)
+    return [read_choice(whole, -(2 ** 63), 2 ** 64 - 1) for whole in wholes]
+
+
+def read_intervals(ends, least, most):
+    intervals = in_groups(read_numbers(ends, 2 * least, 2 * most), 2)
+    for low, high in intervals:
+        if low > high:
+            raise WrongInput("a low above its high")
+    return intervals
+
+
+def read_interval_row(ends):
+    return read_intervals(ends, 0, MOST_INTERVALS)
+
+
+def read_two_interval_rows(one, other):
+    return same_length(read_interval_row(one), read_interval_row(other))
+
+
+def read_interval_square(n, ends):
+    return in_groups(read_intervals(ends, n * n, n * n), n)

@@ -65,9 +65,13 @@ def write_number(number):
     return bits
 
 
-def told(values):
-    numbers = [number_near(value, places, NEAREST) for value, places in values]
+def told_by(way, values):
+    numbers = [number_near(value, places, way) for value, places in values]
     return [0] + [write_number(number) for number in numbers]
+
+
+def told(values):
+    return told_by(NEAREST, values)
 
 
 # A value between two steps is marked by a last bit 1 behind the lower step:

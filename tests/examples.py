@@ -10,6 +10,9 @@ PLANE = [point(0, 0, 1), point(1, 0, 1), point(0, 1, 1), point(1, 1, 1), point(2
 SQUARE = joined([(0, 0), (4, 0), (4, 4), (0, 4)])
 ROW = numbers_of([1, -2.5, 0.1, 1e300, -1e-300, -0.0])
 OTHER_ROW = numbers_of([7, 3, -0.1, 1e-300, 1e300, 5])
+INTERVALS = numbers_of([1, 2, -3, 0.1, -0.0, 1e-300])
+OTHER_INTERVALS = numbers_of([2, 3, -7, -0.1, 5, 1e300])
+GREAT_INTERVALS = numbers_of([1, GREATEST, -GREATEST, 2])
 GREAT_ROW = numbers_of([GREATEST, GREATEST, 1])
 
 # Of each call its name and what is handed in.
@@ -89,7 +92,33 @@ EXAMPLES = [
     ("normal", [point(0, 0, 0), point(GREATEST, 0, 0), point(0, 2, 0)]),
     ("grid", [3, 1, ROW]),
     ("grid", [15, 0, ROW]),
+    ("whole", [2, 0, numbers_of([1.5, -2.5, 1e10])]),
+    ("whole", [0, 1, ROW]),
+    ("number", [0, [-2 ** 63, 0, 7, 2 ** 64 - 1]]),
+    ("number", [2, [2 ** 53 + 1, -2 ** 53 - 1]]),
+    ("pick", [0, ROW, OTHER_ROW]),
+    ("pick", [3, ROW, OTHER_ROW]),
+    ("rounded", [0, 0, ROW, OTHER_ROW]),
+    ("rounded", [2, 1, GREAT_ROW, GREAT_ROW]),
+    ("rounded", [3, 2, ROW, ROW]),
+    ("rounded", [4, 3, GREAT_ROW, GREAT_ROW]),
+    ("both", [0, INTERVALS, OTHER_INTERVALS]),
+    ("both", [2, INTERVALS, OTHER_INTERVALS]),
+    ("both", [3, INTERVALS, OTHER_INTERVALS]),
+    ("both", [3, OTHER_INTERVALS, INTERVALS]),
+    ("both", [5, INTERVALS, OTHER_INTERVALS]),
+    ("both", [2, GREAT_INTERVALS, GREAT_INTERVALS]),
+    ("alone", [1, INTERVALS]),
+    ("alone", [2, GREAT_INTERVALS]),
+    ("alone", [3, INTERVALS]),
+    ("alone", [4, OTHER_INTERVALS]),
+    ("weigh", [INTERVALS, OTHER_INTERVALS]),
+    ("weigh", [GREAT_INTERVALS, GREAT_INTERVALS]),
+    ("weigh", [[], []]),
+    ("rows", [1, INTERVALS[:2], OTHER_INTERVALS[:2]]),
+    ("rows", [2, INTERVALS + OTHER_INTERVALS[:2], OTHER_INTERVALS[:4]]),
+    ("rows", [1, GREAT_INTERVALS[:2], GREAT_INTERVALS[:2]]),
 ]
 
 # Lists of whole numbers that are no doubles: the name, and which argument.
-NO_DOUBLES = (("mass", 1), ("heart3", 1))
+NO_DOUBLES = (("mass", 1), ("heart3", 1), ("number", 1))

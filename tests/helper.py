@@ -74,3 +74,27 @@ def near_number(source, spread=40):
     exponent = 1023 + source.randrange(-spread, spread + 1)
     empty = source.choice((0, 0, 26, 50))
     return source.getrandbits(1) << 63 | exponent << 52 | source.getrandbits(52 - empty) << empty
+
+
+# Some interval, by the bits of its low and its high: a point now and then.
+def any_interval(source, number):
+    ends = [number(source), number(source)]
+    if source.randrange(6) == 0:
+        ends[1] = ends[0]
+    return sorted(ends, key=order_key)
+
+
+# Bits in the order of their numbers.
+def order_key(number):
+    return -(number & ~SIGN) if number & SIGN else number
+
+
+def some_edge(source):
+    return bits(source.choice(EXTREMES))
+
+
+def some_small(source):
+    return bits(source.choice(SMALL))
+
+
+SIZES = (near_number, any_number, some_edge, some_small)

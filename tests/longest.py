@@ -2,7 +2,7 @@
 
 import random
 
-from helper import any_number, joined
+from helper import any_interval, any_number, joined
 
 SOURCE = random.Random(99)
 
@@ -27,6 +27,17 @@ def long_simple_loop(count):
     return [number for p in below + above for number in p]
 
 
+def intervals(count):
+    return [number for _ in range(count) for number in any_interval(SOURCE, any_number)]
+
+
+# Without 0, all below it or all above.
+def divisors(count):
+    sign = SOURCE.getrandbits(1) << 63
+    ends = [sorted(number & ~(1 << 63) or 1 for number in numbers(2)) for _ in range(count)]
+    return [number | sign for pair in ends for number in (pair[::-1] if sign else pair)]
+
+
 LONGEST = [
     ("turns", [numbers(1024), numbers(2)]),
     ("simple", [long_simple_loop(128)]),
@@ -43,5 +54,19 @@ LONGEST = [
     ("heart", [numbers(1024)]),
     ("mass", [numbers(12288), [SOURCE.randrange(4096) for _ in range(6144)]]),
     ("grid", [15, 0, numbers(4096)]),
+    ("whole", [3, 0, rising(4096)]),
+    ("number", [0, [SOURCE.getrandbits(64) for _ in range(4096)]]),
+    ("pick", [2, numbers(4096), numbers(4096)]),
+    ("rounded", [2, 0, numbers(4096), numbers(4096)]),
+    ("rounded", [3, 0, numbers(4096), rising(4096)]),
+    ("rounded", [4, 2, rising(4096), numbers(4096)]),
+    ("both", [2, intervals(2048), intervals(2048)]),
+    ("both", [3, intervals(2048), divisors(2048)]),
+    ("both", [4, intervals(2048), intervals(2048)]),
+    ("alone", [1, intervals(2048)]),
+    ("alone", [3, rising(4096)]),
+    ("alone", [4, divisors(2048)]),
+    ("weigh", [intervals(2048), intervals(2048)]),
+    ("rows", [16, intervals(256), intervals(16)]),
     ("heart3", [numbers(12288), [SOURCE.randrange(4096) for _ in range(6144)]]),
 ]

@@ -1,23 +1,14 @@
 """Point 25: grid."""
 
-import math
 import random
 import unittest
 from fractions import Fraction
 
 from exactplaces.exact import grid
 from helper import EXTREMES, GREATEST, LEAST, NOT_FINITE, any_number, bits, near_number
-from truth import numbers_of, told, values_of
+from truth import numbers_of, told, values_of, whole_by
 
 ONE = bits(1.0)
-
-
-def whole_by(way, value):
-    if way == 0:
-        return round(value)
-    if way == 3:
-        return math.trunc(value)
-    return math.floor(value) if way == 1 else math.ceil(value)
 
 
 def true_grid(k, way, x):

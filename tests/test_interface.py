@@ -38,6 +38,14 @@ centre3(a, b, c, d)
 cutting(a, b, c, d, e)
 normal(a, b, c)
 grid(k, way, x)
+whole(kind, way, x)
+number(way, x)
+pick(op, x, y)
+rounded(op, way, x, y)
+both(op, X, Y)
+alone(op, X)
+weigh(X, Y)
+rows(n, A, X)
 """
 
 

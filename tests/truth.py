@@ -247,3 +247,35 @@ def cutting_of(a, b, c, d, e):
     u, v, w, far = way(a, b), way(a, c), way(d, e), way(a, d)
     shares = solved([[u[i], v[i], -w[i], far[i]] for i in range(3)])
     return shares and [a[i] + shares[0] * u[i] + shares[1] * v[i] for i in range(3)]
+
+
+def whole_by(way, value):
+    if way == 0:
+        return round(value)
+    if way == 3:
+        return math.trunc(value)
+    return math.floor(value) if way == 1 else math.ceil(value)
+
+
+def intervals_of(ends):
+    values = values_of(ends)
+    return list(zip(values[::2], values[1::2]))
+
+
+# The answer of a call that tells the narrowest interval of each of these sets,
+# each given by some of its members, the least and the greatest among them.
+def intervals_answer(sets):
+    ends = []
+    for members in sets:
+        ends += [rounded_down(min(members)), rounded_up(max(members))]
+    return [-7] if None in ends else [0] + ends
+
+
+def products(one, other):
+    return [x * y for x in one for y in other]
+
+
+# The least and the greatest sum, with each product's factors by themselves.
+def weighed_ends(ones, others):
+    all_products = [products(one, other) for one, other in zip(ones, others)]
+    return [sum((min(p) for p in all_products), Fraction(0)), sum((max(p) for p in all_products), Fraction(0))]
