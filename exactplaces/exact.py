@@ -4,6 +4,9 @@ from exactplaces.clouds import hull_answer
 from exactplaces.clouds import nearest_place
 from exactplaces.intervals import alone_answer
 from exactplaces.intervals import both_answer
+from exactplaces.intervals import middles_answer
+from exactplaces.intervals import order_answer
+from exactplaces.intervals import powers_answer
 from exactplaces.intervals import rows_answer
 from exactplaces.intervals import weigh_answer
 from exactplaces.loops import simplicity
@@ -11,6 +14,7 @@ from exactplaces.loops import turning
 from exactplaces.measures import distance
 from exactplaces.measures import loop_area
 from exactplaces.measures import loop_heart
+from exactplaces.newton_step import newton_answer
 from exactplaces.places import centre_place
 from exactplaces.places import cutting_place
 from exactplaces.places import foot_place
@@ -137,7 +141,7 @@ def parts(x):
 
 
 def det(n, numbers):
-    return answered(lambda: told([square_determinant(read_square(n, numbers))]))
+    return answered(lambda: told([square_determinant(read_square(read_choice(n, 1, 5), numbers))]))
 
 
 def area(loop):
@@ -226,3 +230,21 @@ def weigh(X, Y):
 def rows(n, A, X):
     return answered(lambda: rows_answer(
         read_interval_square(read_choice(n, 1, 16), A), read_intervals(X, n, n)))
+
+
+def powers(c, X):
+    return answered(lambda: powers_answer(read_intervals(c, 1, 64), read_intervals(X, 1, 1)[0]))
+
+
+def middles(X):
+    return answered(lambda: middles_answer(read_interval_row(X)))
+
+
+def order(X, Y):
+    return answered(lambda: order_answer(read_two_interval_rows(X, Y)))
+
+
+def newton(n, X, f, J, M):
+    return answered(lambda: newton_answer(
+        read_intervals(X, read_choice(n, 1, 8), n), read_intervals(f, n, n),
+        read_interval_square(n, J), read_square(n, M)))

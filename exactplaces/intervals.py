@@ -8,6 +8,7 @@ from exactplaces.refusals import NotThere
 from exactplaces.rounding import exact_quotient
 from exactplaces.rounding import exact_root
 from exactplaces.telling import DOWN
+from exactplaces.telling import NEAREST
 from exactplaces.telling import PLACES
 from exactplaces.telling import PRODUCT_PLACES
 from exactplaces.telling import UP
@@ -145,3 +146,39 @@ def weigh_answer(pair):
 
 def rows_answer(square, column):
     return told_intervals([weighed_span(row, column) for row in square])
+
+
+# Each step is rounded by itself, so it must be told before the next is taken.
+def powers_answer(coefficients, interval):
+    found = coefficients[-1]
+    for coefficient in reversed(coefficients[:-1]):
+        product = narrowest(product_span(found, interval))
+        found = narrowest(sum_span(product, coefficient))
+    return [0] + written([found])
+
+
+# One place more halves the sum.
+def middle_of(interval):
+    return number_near(interval[0] + interval[1], PLACES + 1, NEAREST)
+
+
+def reach_from(middle, interval):
+    return number_near(max(middle - interval[0], interval[1] - middle), PLACES, UP)
+
+
+def middles_answer(intervals):
+    middles = [middle_of(interval) for interval in intervals]
+    reaches = [reach_from(middle, interval) for middle, interval in zip(middles, intervals)]
+    return [0] + [write_number(number) for number in middles + reaches]
+
+
+def order_of(one, other):
+    if one[1] < other[0]:
+        return -1
+    if one[0] > other[1]:
+        return 1
+    return 0
+
+
+def order_answer(pair):
+    return [0] + [order_of(one, other) for one, other in zip(pair[0], pair[1])]

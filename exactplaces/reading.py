@@ -82,7 +82,6 @@ def read_loop(loop, most):
 
 
 def read_square(n, numbers):
-    read_choice(n, 1, 5)
     return in_groups(read_numbers(numbers, n * n, n * n), n)
 
 

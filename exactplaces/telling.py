@@ -81,9 +81,8 @@ def marked(whole, places, is_more):
     return (2 * whole + (1 if is_more else 0), places + 1)
 
 
+# Python's // goes down whatever the signs, so the lower step is met.
 def quotient(dividend, divisor, places):
-    if divisor < 0:
-        return quotient(-dividend, -divisor, places)
     shift = max(KEPT_BITS + divisor.bit_length() - dividend.bit_length(), 0)
     scaled = dividend << shift
     whole = scaled // divisor

@@ -118,6 +118,17 @@ EXAMPLES = [
     ("rows", [1, INTERVALS[:2], OTHER_INTERVALS[:2]]),
     ("rows", [2, INTERVALS + OTHER_INTERVALS[:2], OTHER_INTERVALS[:4]]),
     ("rows", [1, GREAT_INTERVALS[:2], GREAT_INTERVALS[:2]]),
+    ("powers", [INTERVALS, numbers_of([-1, 2])]),
+    ("powers", [INTERVALS[:2], numbers_of([-1, 2])]),
+    ("powers", [GREAT_INTERVALS, numbers_of([2, 3])]),
+    ("middles", [INTERVALS]),
+    ("middles", [GREAT_INTERVALS]),
+    ("order", [INTERVALS, OTHER_INTERVALS]),
+    ("order", [OTHER_INTERVALS, INTERVALS]),
+    ("newton", [1, numbers_of([1, 2]), numbers_of([0.25, 0.25]), numbers_of([2, 4]), numbers_of([0.375])]),
+    ("newton", [1, numbers_of([3, 4]), numbers_of([10.25, 10.25]), numbers_of([6, 8]), numbers_of([0.125])]),
+    ("newton", [2, INTERVALS[:4], INTERVALS[2:], INTERVALS + OTHER_INTERVALS[:2], ROW[:4]]),
+    ("newton", [1, GREAT_INTERVALS[:2], GREAT_INTERVALS[:2], GREAT_INTERVALS[:2], GREAT_ROW[:1]]),
 ]
 
 # Lists of whole numbers that are no doubles: the name, and which argument.

@@ -2,7 +2,7 @@
 
 import random
 
-from helper import any_interval, any_number, joined
+from helper import any_interval, any_number, joined, near_number
 
 SOURCE = random.Random(99)
 
@@ -29,6 +29,10 @@ def long_simple_loop(count):
 
 def intervals(count):
     return [number for _ in range(count) for number in any_interval(SOURCE, any_number)]
+
+
+def near_intervals(count):
+    return [number for _ in range(count) for number in any_interval(SOURCE, near_number)]
 
 
 # Without 0, all below it or all above.
@@ -68,5 +72,11 @@ LONGEST = [
     ("alone", [4, divisors(2048)]),
     ("weigh", [intervals(2048), intervals(2048)]),
     ("rows", [16, intervals(256), intervals(16)]),
+    ("powers", [intervals(64), near_intervals(1)]),
+    ("powers", [near_intervals(64), near_intervals(1)]),
+    ("middles", [intervals(2048)]),
+    ("order", [intervals(2048), intervals(2048)]),
+    ("newton", [8, intervals(8), intervals(8), intervals(64), numbers(64)]),
+    ("newton", [8, near_intervals(8), near_intervals(8), near_intervals(64), [near_number(SOURCE) for _ in range(64)]]),
     ("heart3", [numbers(12288), [SOURCE.randrange(4096) for _ in range(6144)]]),
 ]

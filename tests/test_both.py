@@ -99,6 +99,9 @@ class BothTest(unittest.TestCase):
         self.check(QUOTIENT, (-1, 1), (10, 10), (-0.1, 0.1))
         self.check(QUOTIENT, (-1, -1), (10, 10), (-0.1, -math.nextafter(0.1, 0)))
         self.check(QUOTIENT, (LEAST, LEAST), (2, GREATEST), (0.0, LEAST))
+        self.check(QUOTIENT, (LEAST, LEAST), (0.25, 1), (LEAST, 4 * LEAST))
+        self.check(QUOTIENT, (-LEAST, -LEAST), (0.25, 1), (-4 * LEAST, -LEAST))
+        self.check(QUOTIENT, (-LEAST, LEAST), (0.25, 1), (-4 * LEAST, 4 * LEAST))
 
     def test_exact_ends_are_not_widened(self):
         self.check(SUM, (0.5, 0.75), (0.25, 1), (0.75, 1.75))

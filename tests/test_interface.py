@@ -46,10 +46,21 @@ both(op, X, Y)
 alone(op, X)
 weigh(X, Y)
 rows(n, A, X)
+powers(c, X)
+middles(X)
+order(X, Y)
+newton(n, X, f, J, M)
 """
 
 
 class InterfaceTest(unittest.TestCase):
+    def test_no_call_more_or_less(self):
+        names = [line.partition("(")[0] for line in CALLS.split("\n")[1:-1]]
+        found = [name for name, value in vars(exact).items()
+                 if callable(value) and value.__module__ == "exactplaces.exact"]
+        self.assertEqual(found, names)
+        self.assertEqual(len(names), 44)
+
     def test_names_and_arguments(self):
         for line in CALLS.split("\n")[1:-1]:
             name = line.partition("(")[0]

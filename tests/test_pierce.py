@@ -108,6 +108,11 @@ class PierceTest(unittest.TestCase):
         self.check((LEAST, LEAST, -LEAST), (LEAST, LEAST, LEAST), tiny, 1)
         self.check((LEAST, 0, -GREATEST), (LEAST, 0, GREATEST), tiny, 2)
         self.check((2 * LEAST, 3 * LEAST, -1), (2 * LEAST, 3 * LEAST, 1), tiny, 0)
+        tiny = ((0, 0, 0), (LEAST, 0, 0), (0, LEAST, 0))
+        self.check((0, -LEAST, 0), (0, 0, 0), tiny, 2)
+        self.check((-LEAST, 0, 0), (0, 0, 0), tiny, 2)
+        self.check((LEAST, LEAST, 0), (LEAST, 0, 0), tiny, 2)
+        self.check((LEAST, LEAST, 0), (0, 0, 0), tiny, 3)
         great = ((-GREATEST, -GREATEST, 0), (GREATEST, -GREATEST, 0), (0, GREATEST, 0))
         self.check((0, 0, -LEAST), (0, 0, LEAST), great, 1)
         self.check((LEAST, GREATEST, -LEAST), (LEAST, GREATEST, LEAST), great, 0)
@@ -126,9 +131,11 @@ class PierceTest(unittest.TestCase):
     def test_in_the_plane_against_fractions(self):
         source = random.Random(19)
         seen = set()
-        for _ in range(1500):
-            five = [(x, y, 3 - 2 * x + y) for x, y in random_points(source, 5, 2, range(4))]
-            answer = true_pierce(*five)
-            seen.add(answer)
-            self.assertEqual(pierce(*[point(*p) for p in five]), [answer], five)
+        for step in (1, LEAST):
+            for _ in range(1000):
+                flat = random_points(source, 5, 2, range(4))
+                five = [(x * step, y * step, (3 - 2 * x + y) * step) for x, y in flat]
+                answer = true_pierce(*five)
+                seen.add(answer)
+                self.assertEqual(pierce(*[point(*p) for p in five]), [answer], five)
         self.assertEqual(seen, {-5, 0, 2, 3})

@@ -42,6 +42,11 @@ class ReadNumberTest(unittest.TestCase):
             with self.assertRaises(WrongInput):
                 read_number(number)
 
+    def test_no_64_bits(self):
+        for number in (-1, 2 ** 64, 2 ** 64 + bits(1.0), 2 ** 65, -2 ** 64):
+            with self.assertRaises(WrongInput):
+                read_number(number)
+
 
 class WhereStepsBeginToGrowTest(unittest.TestCase):
     def test_neighbours_of_the_least_normal_number_are_as_near(self):
